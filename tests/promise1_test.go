@@ -61,9 +61,73 @@ func callsOfStage1() []func() string {
 	return calls
 }
 
+func oddInstrs() []impl.Instr {
+	return append(wrongInstrs(), sortedInstrs()...)
+}
+
+func oddPrograms() []impl.Program {
+	all := wrongPrograms()
+	for i, p := range rightPrograms() {
+		if i%20 == 0 {
+			all = append(all, p)
+		}
+	}
+	return all
+}
+
+func oddLines() [][]string {
+	var all [][]string
+	for i, p := range rightPrograms() {
+		if i%20 == 0 {
+			all = append(all, plainLines(p), inTurns(p))
+		}
+	}
+	return append(all, nil, []string{}, []string{""}, []string{"0 jump 0 6"}, oddTexts(), make([]string, impl.MaxList), make([]string, impl.MaxList+1),
+		slices.Repeat([]string{"0 set 0 1"}, 7), []string{"0 set 0 1", strings.Repeat(" ", impl.MaxText+1), "9"})
+}
+
+// callsOfStage2 holds every call of chapter 3 with its arguments.
+func callsOfStage2() []func() string {
+	var calls []func() string
+	for _, x := range oddInstrs() {
+		calls = append(calls,
+			func() string { return fmt.Sprint(impl.InstrOK(x)) },
+			func() string { return fmt.Sprint(impl.InstrText(x)) })
+	}
+	programs := oddPrograms()
+	for i, p := range programs {
+		other := programs[(i+1)%len(programs)]
+		calls = append(calls,
+			func() string { return fmt.Sprint(impl.ProgramOK(p)) },
+			func() string { return fmt.Sprint(impl.ProgramText(p)) },
+			func() string { return fmt.Sprint(impl.PackProgram(p)) },
+			func() string { return fmt.Sprint(impl.SameProgram(p, p), impl.SameProgram(p, other)) })
+	}
+	for _, lines := range oddLines() {
+		calls = append(calls, func() string { return fmt.Sprint(impl.ReadProgram(lines)) })
+	}
+	texts := oddTexts()
+	for _, p := range rightPrograms()[:40] {
+		texts = append(texts, plainList(plainNumbers(p)))
+	}
+	for _, x := range oddInstrs() {
+		texts = append(texts, instrTexts[x], "  "+instrTexts[x]+" 0")
+	}
+	for _, text := range texts {
+		calls = append(calls,
+			func() string { return fmt.Sprint(impl.ReadInstr(text)) },
+			func() string { return fmt.Sprint(impl.UnpackProgram(text)) })
+	}
+	return calls
+}
+
+func allCalls() []func() string {
+	return append(callsOfStage1(), callsOfStage2()...)
+}
+
 // A panic anywhere here fails the test too.
 func TestAnswersDoNotHangOnWhatWasCalledAhead(t *testing.T) {
-	calls := callsOfStage1()
+	calls := allCalls()
 	first := make([]string, len(calls))
 	for i, call := range calls {
 		first[i] = call()
@@ -86,6 +150,97 @@ func TestPackListLeavesItsArgument(t *testing.T) {
 	}
 }
 
+// roomy is a program with room behind the end of each of its lists, and all of
+// that room.
+func roomy(p impl.Program) (impl.Program, [][]impl.Instr) {
+	var room [][]impl.Instr
+	for _, code := range p.Code {
+		all := append(slices.Clone(code), impl.Instr{Op: 3, B: 7}, impl.Instr{Op: 3, B: 8})
+		room = append(room, all)
+	}
+	room = append(room, setting(3))
+	short := impl.Program{Code: slices.Clone(room)[:len(p.Code)]}
+	for k, code := range p.Code {
+		short.Code[k] = room[k][:len(code)]
+	}
+	return short, room
+}
+
+func sameRoom(a, b [][]impl.Instr) bool {
+	return slices.EqualFunc(a, b, func(x, y []impl.Instr) bool { return slices.Equal(x, y) })
+}
+
+func TestProgramsThatAreHandedInStayAsTheyWere(t *testing.T) {
+	for i, p := range oddPrograms() {
+		given, room := roomy(p)
+		behind := given.Code[:len(given.Code)+1]
+		wasBehind := slices.Clone(behind)
+		was := cloned(impl.Program{Code: room}).Code
+		impl.ProgramOK(given)
+		impl.ProgramText(given)
+		impl.PackProgram(given)
+		impl.SameProgram(given, given)
+		if !sameRoom(room, was) || !sameRoom(behind, wasBehind) || !alike(given, p) {
+			t.Errorf("program %d, or what is behind its lists, was changed", i)
+		}
+	}
+}
+
+func TestLinesThatAreHandedInStayAsTheyWere(t *testing.T) {
+	for i, lines := range oddLines() {
+		room := append(slices.Clone(lines), "0 set 0 1", "x")
+		was := slices.Clone(room)
+		impl.ReadProgram(room[:len(lines)])
+		if !slices.Equal(room, was) {
+			t.Errorf("lines %d, or what is behind them, were changed", i)
+		}
+	}
+}
+
+// spoil writes over all the memory that a program has, behind the ends of its lists too.
+func spoil(code []impl.Instr) {
+	for i := range code[:cap(code)] {
+		code[:cap(code)][i] = impl.Instr{Op: -1, A: -1, B: -1}
+	}
+}
+
+func TestProgramsOfAnswersShareNoMemory(t *testing.T) {
+	for _, want := range rightPrograms()[100:200] {
+		lines := plainLines(want)
+		packed := plainList(plainNumbers(want))
+		readers := []func() impl.Program{
+			func() impl.Program { p, _ := impl.ReadProgram(lines); return p },
+			func() impl.Program { p, _ := impl.UnpackProgram(packed); return p },
+		}
+		for _, read := range readers {
+			for k := range 3 {
+				one, other := read(), read()
+				spoil(one.Code[k])
+				for rest := range 3 {
+					if rest != k && !slices.Equal(one.Code[rest], want.Code[rest]) {
+						t.Errorf("the code of thread %d changed with that of %d", rest, k)
+					}
+				}
+				if third := read(); !alike(other, want) || !alike(third, want) {
+					t.Error("an answer changed with another one")
+				}
+			}
+		}
+	}
+}
+
+func TestLinesOfAnswersShareNoMemory(t *testing.T) {
+	for _, p := range rightPrograms()[100:200] {
+		one, _ := impl.ProgramText(p)
+		other, _ := impl.ProgramText(p)
+		clear(one[:cap(one)])
+		third, _ := impl.ProgramText(p)
+		if !slices.Equal(other, plainLines(p)) || !slices.Equal(third, plainLines(p)) {
+			t.Error("an answer changed with another one")
+		}
+	}
+}
+
 func TestListsOfAnswersShareNoMemory(t *testing.T) {
 	want := counted(300)
 	packed := plainList(want)
@@ -99,7 +254,7 @@ func TestListsOfAnswersShareNoMemory(t *testing.T) {
 }
 
 func TestCallsBesideOneAnother(t *testing.T) {
-	calls := callsOfStage1()
+	calls := allCalls()
 	want := make([]string, len(calls))
 	for i, call := range calls {
 		want[i] = call()
