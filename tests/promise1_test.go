@@ -121,8 +121,57 @@ func callsOfStage2() []func() string {
 	return calls
 }
 
+func oddVms() []impl.Vm {
+	all := wrongVms()
+	for i, key := range rightKeys() {
+		if i%25 == 0 {
+			all = append(all, vmOfKey(key))
+		}
+	}
+	return all
+}
+
+// callsOfStage3 holds every call of chapter 4 with its arguments.
+func callsOfStage3() []func() string {
+	var calls []func() string
+	states := oddVms()
+	programs := append(oddPrograms(), rightPrograms()[300:340]...)
+	for i, p := range programs {
+		for j := range 4 {
+			s := states[len(states)-1-(i*5+j)%60]
+			calls = append(calls, callsOfState(p, s)...)
+		}
+	}
+	right := jumping(0, 6, 0, 6)
+	for i, s := range states {
+		other := states[(i+1)%len(states)]
+		calls = append(calls, callsOfState(right, s)...)
+		calls = append(calls,
+			func() string { return fmt.Sprint(impl.KeyOf(s)) },
+			func() string { return fmt.Sprint(impl.SameVm(s, s), impl.SameVm(s, other)) })
+	}
+	for _, text := range append(oddTexts(), rightKeys()...) {
+		calls = append(calls, func() string { return fmt.Sprint(impl.VmOf(text)) })
+	}
+	return append(calls, func() string { return fmt.Sprint(impl.NewVm()) })
+}
+
+func callsOfState(p impl.Program, s impl.Vm) []func() string {
+	calls := []func() string{
+		func() string { return fmt.Sprint(impl.VmOK(p, s)) },
+		func() string { return fmt.Sprint(impl.EnabledOf(p, s)) },
+		func() string { return fmt.Sprint(impl.IsStuck(p, s)) },
+	}
+	for _, k := range []int{math.MinInt, -1, 0, 1, 2, 3, math.MaxInt} {
+		calls = append(calls,
+			func() string { return fmt.Sprint(impl.IsDone(p, s, k)) },
+			func() string { return fmt.Sprint(impl.StepVm(p, s, k)) })
+	}
+	return calls
+}
+
 func allCalls() []func() string {
-	return append(callsOfStage1(), callsOfStage2()...)
+	return slices.Concat(callsOfStage1(), callsOfStage2(), callsOfStage3())
 }
 
 // A panic anywhere here fails the test too.
@@ -194,6 +243,86 @@ func TestLinesThatAreHandedInStayAsTheyWere(t *testing.T) {
 		if !slices.Equal(room, was) {
 			t.Errorf("lines %d, or what is behind them, were changed", i)
 		}
+	}
+}
+
+// roomyVm is a state with room behind the end of each of its lists, and all of
+// that room.
+func roomyVm(s impl.Vm) (impl.Vm, [][]int) {
+	var room [][]int
+	for _, list := range listsOf(&s) {
+		all := append(slices.Clone(*list), 7, 8, 9)
+		room = append(room, all)
+		*list = all[:len(*list)]
+	}
+	return s, room
+}
+
+func TestStatesThatAreHandedInStayAsTheyWere(t *testing.T) {
+	for i, s := range oddVms() {
+		given, room := roomyVm(s)
+		was := slices.Concat(room...)
+		for _, p := range []impl.Program{jumping(i%3, 6, i%6, 6), stillPrograms(t)[i%4], {}} {
+			p, codes := roomy(p)
+			wasCodes := cloned(impl.Program{Code: codes}).Code
+			for _, call := range callsOfState(p, given) {
+				call()
+			}
+			if !sameRoom(codes, wasCodes) {
+				t.Errorf("a program, or what is behind its lists, was changed with state %d", i)
+			}
+		}
+		impl.KeyOf(given)
+		impl.SameVm(given, given)
+		if !slices.Equal(slices.Concat(room...), was) || !slices.Equal(numbersOfVm(given), numbersOfVm(s)) {
+			t.Errorf("state %d, or what is behind its lists, was changed", i)
+		}
+	}
+}
+
+// wantOwnMemory spoils one list of an answer, behind its end too, and asks
+// whether another list, the argument or another answer changed with it.
+func wantOwnMemory(t *testing.T, name string, given *impl.Vm, answer func() impl.Vm) {
+	t.Helper()
+	want := numbersOfVm(answer())
+	for part := range 4 {
+		wasGiven := numbersOfVm(*given)
+		one, other := answer(), answer()
+		rest := slices.Clone(listsOf(&one))
+		spoiled := *rest[part]
+		for i := range spoiled[:cap(spoiled)] {
+			spoiled[:cap(spoiled)][i] = -1
+		}
+		for i, list := range rest {
+			if i != part && slices.Contains(*list, -1) {
+				t.Errorf("%s: list %d changed with list %d", name, i, part)
+			}
+		}
+		if !slices.Equal(numbersOfVm(*given), wasGiven) {
+			t.Errorf("%s: the argument changed with the answer", name)
+		}
+		if !slices.Equal(numbersOfVm(other), want) || !slices.Equal(numbersOfVm(answer()), want) {
+			t.Errorf("%s: an answer changed with another one", name)
+		}
+	}
+}
+
+func TestStatesOfAnswersShareNoMemory(t *testing.T) {
+	p, _ := impl.ReadProgram([]string{"0 lock 0", "1 set 0 1"})
+	s := vmOfKey("000" + "1234" + "20" + "567890")
+	wantOwnMemory(t, "NewVm", &s, impl.NewVm)
+	wantOwnMemory(t, "VmOf", &s, func() impl.Vm { x, _ := impl.VmOf("123456712654321"); return x })
+	for k, want := range []int{impl.ErrBlocked, impl.OK, impl.ErrDone} {
+		if _, _, code := impl.StepVm(p, s, k); code != want {
+			t.Errorf("StepVm of %d: %d, not %d", k, code, want)
+		}
+		wantOwnMemory(t, "StepVm", &s, func() impl.Vm { x, _, _ := impl.StepVm(p, s, k); return x })
+	}
+	one, _ := impl.EnabledOf(jumping(0, 6, 0, 6), impl.NewVm())
+	other, _ := impl.EnabledOf(jumping(0, 6, 0, 6), impl.NewVm())
+	clear(one[:cap(one)])
+	if !slices.Equal(other, []int{0, 2}) {
+		t.Error("a list of threads changed with another one", other)
 	}
 }
 
