@@ -170,8 +170,59 @@ func callsOfState(p impl.Program, s impl.Vm) []func() string {
 	return calls
 }
 
+func oddBugs() []impl.Bug {
+	right, _ := plainBugs()
+	return append(wrongBugs(), right...)
+}
+
+func oddBugLists() [][]impl.Bug {
+	right, _ := plainBugs()
+	return [][]impl.Bug{nil, {}, right, slices.Repeat(right, 3), oddBugs(), someBugs(30, 1), someBugs(impl.MaxList, 2), someBugs(impl.MaxList+1, 2), make([]impl.Bug, 2)}
+}
+
+func oddSchedules() [][]int {
+	all := append(oddLists(), []int{0, 1, 2}, []int{2, 2, 2, 2, 2, 2, 1, 1, 1}, []int{1, 0, 3})
+	for seed := range 12 {
+		all = append(all, mixedSchedule(seed*2, seed))
+	}
+	return all
+}
+
+// callsOfStage4 holds every call of chapter 5 with its arguments.
+func callsOfStage4() []func() string {
+	var calls []func() string
+	for _, b := range oddBugs() {
+		calls = append(calls,
+			func() string { return fmt.Sprint(impl.BugOK(b)) },
+			func() string { return fmt.Sprint(impl.BugText(b)) })
+	}
+	_, texts := plainBugs()
+	for _, text := range append(oddTexts(), texts...) {
+		calls = append(calls, func() string { return fmt.Sprint(impl.ReadBug(text)) })
+	}
+	for _, a := range oddBugLists() {
+		for _, b := range oddBugLists() {
+			calls = append(calls, func() string { return fmt.Sprint(impl.MergeBugs(a, b)) })
+		}
+	}
+	programs := append(oddPrograms(), rightPrograms()[300:340]...)
+	for i, p := range programs {
+		for j, list := range oddSchedules() {
+			calls = append(calls, callsOfSchedule(p, list, oddBugs()[(i+j)%len(oddBugs())])...)
+		}
+	}
+	return calls
+}
+
+func callsOfSchedule(p impl.Program, list []int, b impl.Bug) []func() string {
+	return []func() string{
+		func() string { return fmt.Sprint(impl.RunSchedule(p, list)) },
+		func() string { return fmt.Sprint(impl.IsWitness(p, list, b)) },
+	}
+}
+
 func allCalls() []func() string {
-	return slices.Concat(callsOfStage1(), callsOfStage2(), callsOfStage3())
+	return slices.Concat(callsOfStage1(), callsOfStage2(), callsOfStage3(), callsOfStage4())
 }
 
 // A panic anywhere here fails the test too.
@@ -280,6 +331,38 @@ func TestStatesThatAreHandedInStayAsTheyWere(t *testing.T) {
 	}
 }
 
+func TestBugsThatAreHandedInStayAsTheyWere(t *testing.T) {
+	for i, list := range oddBugLists() {
+		for j, other := range oddBugLists() {
+			room := append(slices.Clone(list), impl.Bug{Kind: 13, Pc: 1}, impl.Bug{Kind: 12})
+			otherRoom := append(slices.Clone(other), impl.Bug{Kind: 13, Pc: 1}, impl.Bug{Kind: 12})
+			was, otherWas := slices.Clone(room), slices.Clone(otherRoom)
+			impl.MergeBugs(room[:len(list)], otherRoom[:len(other)])
+			if !slices.Equal(room, was) || !slices.Equal(otherRoom, otherWas) {
+				t.Errorf("lists %d and %d, or what is behind them, were changed", i, j)
+			}
+		}
+	}
+}
+
+func TestSchedulesThatAreHandedInStayAsTheyWere(t *testing.T) {
+	programs := append(stillPrograms(t), impl.Program{}, jumping(0, 6, 0, 6))
+	for i, list := range oddSchedules() {
+		for j, p := range programs {
+			p, codes := roomy(p)
+			wasCodes := cloned(impl.Program{Code: codes}).Code
+			room := append(slices.Clone(list), 0, 1, 2)
+			was := slices.Clone(room)
+			for _, call := range callsOfSchedule(p, room[:len(list)], impl.Bug{Kind: 14}) {
+				call()
+			}
+			if !slices.Equal(room, was) || !sameRoom(codes, wasCodes) {
+				t.Errorf("schedule %d or program %d, or what is behind them, was changed", i, j)
+			}
+		}
+	}
+}
+
 // wantOwnMemory spoils one list of an answer, behind its end too, and asks
 // whether another list, the argument or another answer changed with it.
 func wantOwnMemory(t *testing.T, name string, given *impl.Vm, answer func() impl.Vm) {
@@ -323,6 +406,37 @@ func TestStatesOfAnswersShareNoMemory(t *testing.T) {
 	clear(one[:cap(one)])
 	if !slices.Equal(other, []int{0, 2}) {
 		t.Error("a list of threads changed with another one", other)
+	}
+}
+
+func TestRunsOfAnswersShareNoMemory(t *testing.T) {
+	p, _ := impl.ReadProgram([]string{"0 assert 0 1", "1 unlock 0", "1 assert 1 3", "2 lock 0", "2 lock 0"})
+	for _, list := range [][]int{nil, {2, 1, 1, 0}, {2, 1, 1, 0, 0}, {0, 1, 7}} {
+		_, want, wantCode := plainRun(p, list)
+		none := impl.Vm{}
+		wantOwnMemory(t, "RunSchedule", &none, func() impl.Vm { s, _, _ := impl.RunSchedule(p, list); return s })
+		_, one, _ := impl.RunSchedule(p, list)
+		_, other, _ := impl.RunSchedule(p, list)
+		clear(one[:cap(one)])
+		_, third, code := impl.RunSchedule(p, list)
+		if !slices.Equal(other, want) || !slices.Equal(third, want) || code != wantCode {
+			t.Error("bugs changed with those of another answer")
+		}
+	}
+}
+
+func TestMergedBugsShareNoMemory(t *testing.T) {
+	for _, a := range oddBugLists() {
+		for _, b := range oddBugLists() {
+			wasA, wasB := slices.Clone(a), slices.Clone(b)
+			one, _ := impl.MergeBugs(a, b)
+			other, _ := impl.MergeBugs(a, b)
+			was := slices.Clone(other)
+			clear(one[:cap(one)])
+			if !slices.Equal(a, wasA) || !slices.Equal(b, wasB) || !slices.Equal(other, was) {
+				t.Error("an argument or an answer changed with another answer")
+			}
+		}
 	}
 }
 
