@@ -221,8 +221,47 @@ func callsOfSchedule(p impl.Program, list []int, b impl.Bug) []func() string {
 	}
 }
 
+func oddEvents() []impl.Event {
+	all := []impl.Event{{}, {Thread: -1, Pc: -1, Op: -1, Obj: -1}, {Thread: math.MaxInt, Pc: math.MinInt, Op: math.MaxInt, Obj: math.MaxInt}}
+	for i, n := range oddNumbers() {
+		all = append(all, impl.Event{Thread: i % 3, Pc: n, Op: i%8 + 1, Obj: n % 7}, impl.Event{Thread: n, Op: n, Obj: i % 6})
+	}
+	return all
+}
+
+// callsOfStage5 holds every call of chapter 6 with its arguments.
+func callsOfStage5() []func() string {
+	var calls []func() string
+	events := oddEvents()
+	for i, a := range events {
+		b := events[(i+5)%len(events)]
+		calls = append(calls, func() string { return fmt.Sprint(impl.Depends(a, b), impl.Depends(a, a)) })
+	}
+	programs := append(oddPrograms(), closePrograms()[100:140]...)
+	for i, p := range programs {
+		lists := oddSchedules()
+		if impl.ProgramOK(p) {
+			lists = append(lists, turns(p, i), turns(p, i+1))
+		}
+		for j, list := range lists {
+			calls = append(calls, callsOfTrace(p, list, lists[(j+1)%len(lists)])...)
+		}
+	}
+	return calls
+}
+
+func callsOfTrace(p impl.Program, list, other []int) []func() string {
+	return []func() string{
+		func() string { return fmt.Sprint(impl.EventsOf(p, list)) },
+		func() string { return fmt.Sprint(impl.OrderOf(p, list)) },
+		func() string { return fmt.Sprint(impl.RacesOf(p, list)) },
+		func() string { return fmt.Sprint(impl.NormalOf(p, list)) },
+		func() string { return fmt.Sprint(impl.SameClass(p, list, other)) },
+	}
+}
+
 func allCalls() []func() string {
-	return slices.Concat(callsOfStage1(), callsOfStage2(), callsOfStage3(), callsOfStage4())
+	return slices.Concat(callsOfStage1(), callsOfStage2(), callsOfStage3(), callsOfStage4(), callsOfStage5())
 }
 
 // A panic anywhere here fails the test too.
@@ -347,13 +386,18 @@ func TestBugsThatAreHandedInStayAsTheyWere(t *testing.T) {
 
 func TestSchedulesThatAreHandedInStayAsTheyWere(t *testing.T) {
 	programs := append(stillPrograms(t), impl.Program{}, jumping(0, 6, 0, 6))
-	for i, list := range oddSchedules() {
+	schedules := oddSchedules()
+	for i, p := range programs[:8] {
+		schedules = append(schedules, turns(p, i))
+	}
+	for i, list := range schedules {
 		for j, p := range programs {
 			p, codes := roomy(p)
 			wasCodes := cloned(impl.Program{Code: codes}).Code
 			room := append(slices.Clone(list), 0, 1, 2)
 			was := slices.Clone(room)
-			for _, call := range callsOfSchedule(p, room[:len(list)], impl.Bug{Kind: 14}) {
+			given := room[:len(list)]
+			for _, call := range slices.Concat(callsOfSchedule(p, given, impl.Bug{Kind: 14}), callsOfTrace(p, given, given)) {
 				call()
 			}
 			if !slices.Equal(room, was) || !sameRoom(codes, wasCodes) {
@@ -421,6 +465,32 @@ func TestRunsOfAnswersShareNoMemory(t *testing.T) {
 		_, third, code := impl.RunSchedule(p, list)
 		if !slices.Equal(other, want) || !slices.Equal(third, want) || code != wantCode {
 			t.Error("bugs changed with those of another answer")
+		}
+	}
+}
+
+func TestTracesOfAnswersShareNoMemory(t *testing.T) {
+	for i, p := range closePrograms()[:60] {
+		list := turns(p, i)
+		was := slices.Clone(list)
+		for range 2 { // once more, behind what was spoiled
+			events := wantTrace(t, p, list)
+			gotEvents, _ := impl.EventsOf(p, list)
+			order, _ := impl.OrderOf(p, list)
+			normal, _ := impl.NormalOf(p, list)
+			others := [][]int{}
+			for range 2 {
+				other, _ := impl.NormalOf(p, list)
+				others = append(others, other)
+			}
+			clear(gotEvents[:cap(gotEvents)])
+			clear(order[:cap(order)])
+			for n := range normal[:cap(normal)] {
+				normal[:cap(normal)][n] = -1
+			}
+			if !slices.Equal(list, was) || !slices.Equal(others[0], others[1]) || !slices.Equal(others[0], plainNormal(events)) {
+				t.Error("the schedule or an answer changed with another answer")
+			}
 		}
 	}
 }
