@@ -260,8 +260,34 @@ func callsOfTrace(p impl.Program, list, other []int) []func() string {
 	}
 }
 
+// callsOfStage6 holds every call of chapter 7 with its arguments.
+func callsOfStage6() []func() string {
+	var calls []func() string
+	bugs, keys := oddBugs(), append(oddTexts(), rightKeys()...)
+	programs := slices.Concat(oddPrograms(), closePrograms()[100:140], racingPrograms()[:6])
+	for i, p := range programs {
+		calls = append(calls, callsOfFull(p, bugs[i%len(bugs)], keys[i%len(keys)])...)
+	}
+	p := jumping(1, 6, 0, 6)
+	for i, key := range keys {
+		calls = append(calls, callsOfFull(p, bugs[i%len(bugs)], key)...)
+	}
+	return calls
+}
+
+func callsOfFull(p impl.Program, b impl.Bug, key string) []func() string {
+	return []func() string{
+		func() string { return fmt.Sprint(impl.AllStates(p)) },
+		func() string { return fmt.Sprint(impl.AllBugs(p)) },
+		func() string { return fmt.Sprint(impl.WitnessOf(p, b)) },
+		func() string { return fmt.Sprint(impl.WitnessOf(p, impl.Bug{Kind: impl.ErrDeadlock})) },
+		func() string { return fmt.Sprint(impl.CountRuns(p)) },
+		func() string { return fmt.Sprint(impl.IsReached(p, key)) },
+	}
+}
+
 func allCalls() []func() string {
-	return slices.Concat(callsOfStage1(), callsOfStage2(), callsOfStage3(), callsOfStage4(), callsOfStage5())
+	return slices.Concat(callsOfStage1(), callsOfStage2(), callsOfStage3(), callsOfStage4(), callsOfStage5(), callsOfStage6())
 }
 
 // A panic anywhere here fails the test too.
@@ -310,7 +336,7 @@ func sameRoom(a, b [][]impl.Instr) bool {
 }
 
 func TestProgramsThatAreHandedInStayAsTheyWere(t *testing.T) {
-	for i, p := range oddPrograms() {
+	for i, p := range append(oddPrograms(), closePrograms()[:40]...) {
 		given, room := roomy(p)
 		behind := given.Code[:len(given.Code)+1]
 		wasBehind := slices.Clone(behind)
@@ -319,6 +345,9 @@ func TestProgramsThatAreHandedInStayAsTheyWere(t *testing.T) {
 		impl.ProgramText(given)
 		impl.PackProgram(given)
 		impl.SameProgram(given, given)
+		for _, call := range callsOfFull(given, impl.Bug{Kind: impl.ErrAssert}, newKey) {
+			call()
+		}
 		if !sameRoom(room, was) || !sameRoom(behind, wasBehind) || !alike(given, p) {
 			t.Errorf("program %d, or what is behind its lists, was changed", i)
 		}
@@ -490,6 +519,34 @@ func TestTracesOfAnswersShareNoMemory(t *testing.T) {
 			}
 			if !slices.Equal(list, was) || !slices.Equal(others[0], others[1]) || !slices.Equal(others[0], plainNormal(events)) {
 				t.Error("the schedule or an answer changed with another answer")
+			}
+		}
+	}
+}
+
+func TestAllStatesOfAnswersShareNoMemory(t *testing.T) {
+	for _, p := range append(closePrograms()[:60], stillPrograms(t)...) {
+		all := plainSpace(p)
+		finds := plainFinds(p, all)
+		for range 2 { // once more, behind what was spoiled
+			keys, _ := impl.AllStates(p)
+			bugs, _ := impl.AllBugs(p)
+			otherKeys, _ := impl.AllStates(p)
+			otherBugs, _ := impl.AllBugs(p)
+			clear(keys[:cap(keys)])
+			clear(bugs[:cap(bugs)])
+			if !slices.Equal(otherKeys, keysOf(all)) || !slices.Equal(otherBugs, bugsOf(finds)) {
+				t.Error("states or bugs changed with those of another answer")
+			}
+			for b, way := range finds {
+				one, _ := impl.WitnessOf(p, b)
+				other, _ := impl.WitnessOf(p, b)
+				for n := range one[:cap(one)] {
+					one[:cap(one)][n] = -1
+				}
+				if !slices.Equal(other, way) {
+					t.Error("a schedule changed with that of another answer")
+				}
 			}
 		}
 	}
