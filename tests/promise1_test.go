@@ -286,8 +286,56 @@ func callsOfFull(p impl.Program, b impl.Bug, key string) []func() string {
 	}
 }
 
+func oddSleepers() [][]int {
+	return append(oddLists(), []int{0, 1, 2}, []int{2, 0}, []int{1, 1, 0, 2}, []int{-1, 0}, []int{0, 3}, make([]int, impl.MaxList))
+}
+
+// callsOfStage7 holds every call of chapter 8 with its arguments.
+func callsOfStage7() []func() string {
+	var calls []func() string
+	states := oddVms()
+	for i, p := range slices.Concat(oddPrograms(), closePrograms()[100:140], racingPrograms()[:6]) {
+		calls = append(calls, callsOfSleep(p)...)
+		for j := range 3 {
+			s := states[len(states)-1-(i*5+j)%60]
+			calls = append(calls, callsOfSleepers(p, s, oddSleepers()[(i+j)%len(oddSleepers())])...)
+		}
+	}
+	p := programOfNobody()
+	for i, s := range states {
+		calls = append(calls, callsOfSleepers(p, s, oddSleepers()[i%len(oddSleepers())])...)
+	}
+	for _, sleep := range oddSleepers() {
+		calls = append(calls, callsOfSleepers(p, impl.NewVm(), sleep)...)
+	}
+	return calls
+}
+
+// programOfNobody has threads none of which depends on another one, so that they
+// all sleep on.
+func programOfNobody() impl.Program {
+	return impl.Program{Code: [][]impl.Instr{setting(6), setting(6), setting(6)}}
+}
+
+func callsOfSleep(p impl.Program) []func() string {
+	return []func() string{
+		func() string { return fmt.Sprint(impl.SleepSearch(p)) },
+		func() string { return fmt.Sprint(impl.ClassesOf(p)) },
+	}
+}
+
+func callsOfSleepers(p impl.Program, s impl.Vm, sleep []int) []func() string {
+	var calls []func() string
+	for _, k := range []int{math.MinInt, -1, 0, 1, 2, 3, math.MaxInt} {
+		calls = append(calls,
+			func() string { return fmt.Sprint(impl.NextEvent(p, s, k)) },
+			func() string { return fmt.Sprint(impl.StillSleeps(p, s, sleep, k)) })
+	}
+	return calls
+}
+
 func allCalls() []func() string {
-	return slices.Concat(callsOfStage1(), callsOfStage2(), callsOfStage3(), callsOfStage4(), callsOfStage5(), callsOfStage6())
+	return slices.Concat(callsOfStage1(), callsOfStage2(), callsOfStage3(), callsOfStage4(), callsOfStage5(), callsOfStage6(), callsOfStage7())
 }
 
 // A panic anywhere here fails the test too.
@@ -345,7 +393,7 @@ func TestProgramsThatAreHandedInStayAsTheyWere(t *testing.T) {
 		impl.ProgramText(given)
 		impl.PackProgram(given)
 		impl.SameProgram(given, given)
-		for _, call := range callsOfFull(given, impl.Bug{Kind: impl.ErrAssert}, newKey) {
+		for _, call := range append(callsOfFull(given, impl.Bug{Kind: impl.ErrAssert}, newKey), callsOfSleep(given)...) {
 			call()
 		}
 		if !sameRoom(room, was) || !sameRoom(behind, wasBehind) || !alike(given, p) {
@@ -384,7 +432,7 @@ func TestStatesThatAreHandedInStayAsTheyWere(t *testing.T) {
 		for _, p := range []impl.Program{jumping(i%3, 6, i%6, 6), stillPrograms(t)[i%4], {}} {
 			p, codes := roomy(p)
 			wasCodes := cloned(impl.Program{Code: codes}).Code
-			for _, call := range callsOfState(p, given) {
+			for _, call := range append(callsOfState(p, given), callsOfSleepers(p, given, []int{2, 1})...) {
 				call()
 			}
 			if !sameRoom(codes, wasCodes) {
@@ -432,6 +480,22 @@ func TestSchedulesThatAreHandedInStayAsTheyWere(t *testing.T) {
 			if !slices.Equal(room, was) || !sameRoom(codes, wasCodes) {
 				t.Errorf("schedule %d or program %d, or what is behind them, was changed", i, j)
 			}
+		}
+	}
+}
+
+func TestSleepersThatAreHandedInStayAsTheyWere(t *testing.T) {
+	programs := append(stillPrograms(t), programOfNobody(), impl.Program{}, closePrograms()[120])
+	for i, sleep := range oddSleepers() {
+		room := append(slices.Clone(sleep), 0, 1, 2)
+		was := slices.Clone(room)
+		for _, p := range programs {
+			for _, call := range callsOfSleepers(p, impl.NewVm(), room[:len(sleep)]) {
+				call()
+			}
+		}
+		if !slices.Equal(room, was) {
+			t.Errorf("sleepers %d, or what is behind them, were changed", i)
 		}
 	}
 }
@@ -548,6 +612,33 @@ func TestAllStatesOfAnswersShareNoMemory(t *testing.T) {
 					t.Error("a schedule changed with that of another answer")
 				}
 			}
+		}
+	}
+}
+
+func TestSleepOfAnswersSharesNoMemory(t *testing.T) {
+	for _, p := range append(closePrograms()[:60], stillPrograms(t)...) {
+		want := plainSleep(p)
+		one, _ := impl.SleepSearch(p)
+		other, _ := impl.SleepSearch(p)
+		clear(one.Bugs[:cap(one.Bugs)])
+		third, _ := impl.SleepSearch(p)
+		if want.nodes <= 5000 && (!slices.Equal(other.Bugs, want.bugs) || !slices.Equal(third.Bugs, want.bugs)) {
+			t.Error("bugs changed with those of another answer")
+		}
+	}
+	p := programOfNobody()
+	for _, sleep := range [][]int{{0}, {0, 1}, {1, 0}, {0, 1, 0, 1}, {2, 0}, {0, 1, 2}} {
+		was := slices.Clone(sleep)
+		one, _ := impl.StillSleeps(p, impl.NewVm(), sleep, 2)
+		other, _ := impl.StillSleeps(p, impl.NewVm(), sleep, 2)
+		for n := range one[:cap(one)] {
+			one[:cap(one)][n] = -1
+		}
+		third, _ := impl.StillSleeps(p, impl.NewVm(), sleep, 2)
+		want, _ := plainStill(p, newKey, was, 2)
+		if !slices.Equal(sleep, was) || !slices.Equal(other, want) || !slices.Equal(third, want) {
+			t.Error("sleepers changed with those of an answer", sleep)
 		}
 	}
 }
