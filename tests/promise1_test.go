@@ -334,8 +334,53 @@ func callsOfSleepers(p impl.Program, s impl.Vm, sleep []int) []func() string {
 	return calls
 }
 
+func oddItemLists() [][]int {
+	return append(oddLists(), everyItem(), noItems(), []int{22, 0, 8}, []int{5, 5, 5, 16}, []int{0, 7}, slices.Repeat(everyItem(), 195), slices.Repeat(everyItem(), 196))
+}
+
+// callsOfStage8 holds every call of chapter 9 with its arguments.
+func callsOfStage8() []func() string {
+	var calls []func() string
+	for _, n := range append(oddNumbers(), noItems()...) {
+		calls = append(calls, func() string { return fmt.Sprint(impl.ItemAt(n)) })
+		for _, other := range []int{math.MinInt, -1, 0, 2, 3, 6, 7, n, math.MaxInt} {
+			calls = append(calls, func() string { return fmt.Sprint(impl.ItemOf(n, other)) }, func() string { return fmt.Sprint(impl.ItemOf(other, n)) })
+		}
+	}
+	for _, a := range oddItemLists() {
+		for _, b := range oddItemLists() {
+			calls = append(calls, callsOfItems(a, b)...)
+		}
+	}
+	states := oddVms()
+	for i, p := range slices.Concat(oddPrograms(), closePrograms()[100:140], racingPrograms()[:6]) {
+		calls = append(calls, callsOfFeet(p, impl.NewVm())...)
+		for j := range 3 {
+			calls = append(calls, callsOfFeet(p, states[len(states)-1-(i*5+j)%60])...)
+		}
+	}
+	for i, s := range states {
+		calls = append(calls, callsOfFeet(jumping(i%3, 6, i%6, 6), s)...)
+	}
+	return calls
+}
+
+func callsOfItems(a, b []int) []func() string {
+	return []func() string{
+		func() string { return fmt.Sprint(impl.Touches(a, b)) },
+		func() string { return fmt.Sprint(impl.MergeItems(a, b)) },
+	}
+}
+
+func callsOfFeet(p impl.Program, s impl.Vm) []func() string {
+	return []func() string{
+		func() string { return fmt.Sprint(impl.LooksAt(p, s)) },
+		func() string { return fmt.Sprint(impl.FootOf(p, s)) },
+	}
+}
+
 func allCalls() []func() string {
-	return slices.Concat(callsOfStage1(), callsOfStage2(), callsOfStage3(), callsOfStage4(), callsOfStage5(), callsOfStage6(), callsOfStage7())
+	return slices.Concat(callsOfStage1(), callsOfStage2(), callsOfStage3(), callsOfStage4(), callsOfStage5(), callsOfStage6(), callsOfStage7(), callsOfStage8())
 }
 
 // A panic anywhere here fails the test too.
@@ -393,7 +438,7 @@ func TestProgramsThatAreHandedInStayAsTheyWere(t *testing.T) {
 		impl.ProgramText(given)
 		impl.PackProgram(given)
 		impl.SameProgram(given, given)
-		for _, call := range append(callsOfFull(given, impl.Bug{Kind: impl.ErrAssert}, newKey), callsOfSleep(given)...) {
+		for _, call := range slices.Concat(callsOfFull(given, impl.Bug{Kind: impl.ErrAssert}, newKey), callsOfSleep(given), callsOfFeet(given, impl.NewVm())) {
 			call()
 		}
 		if !sameRoom(room, was) || !sameRoom(behind, wasBehind) || !alike(given, p) {
@@ -432,7 +477,7 @@ func TestStatesThatAreHandedInStayAsTheyWere(t *testing.T) {
 		for _, p := range []impl.Program{jumping(i%3, 6, i%6, 6), stillPrograms(t)[i%4], {}} {
 			p, codes := roomy(p)
 			wasCodes := cloned(impl.Program{Code: codes}).Code
-			for _, call := range append(callsOfState(p, given), callsOfSleepers(p, given, []int{2, 1})...) {
+			for _, call := range slices.Concat(callsOfState(p, given), callsOfSleepers(p, given, []int{2, 1}), callsOfFeet(p, given)) {
 				call()
 			}
 			if !sameRoom(codes, wasCodes) {
@@ -496,6 +541,21 @@ func TestSleepersThatAreHandedInStayAsTheyWere(t *testing.T) {
 		}
 		if !slices.Equal(room, was) {
 			t.Errorf("sleepers %d, or what is behind them, were changed", i)
+		}
+	}
+}
+
+func TestItemsThatAreHandedInStayAsTheyWere(t *testing.T) {
+	for i, a := range oddItemLists() {
+		for j, b := range oddItemLists() {
+			room, otherRoom := append(slices.Clone(a), 9, 1, 0), append(slices.Clone(b), 9, 1, 0)
+			was, otherWas := slices.Clone(room), slices.Clone(otherRoom)
+			for _, call := range callsOfItems(room[:len(a)], otherRoom[:len(b)]) {
+				call()
+			}
+			if !slices.Equal(room, was) || !slices.Equal(otherRoom, otherWas) {
+				t.Errorf("items %d or %d, or what is behind them, were changed", i, j)
+			}
 		}
 	}
 }
@@ -639,6 +699,39 @@ func TestSleepOfAnswersSharesNoMemory(t *testing.T) {
 		want, _ := plainStill(p, newKey, was, 2)
 		if !slices.Equal(sleep, was) || !slices.Equal(other, want) || !slices.Equal(third, want) {
 			t.Error("sleepers changed with those of an answer", sleep)
+		}
+	}
+}
+
+// wantOwnList spoils a list that is answered, behind its end too, and asks whether
+// another answer or an argument changed with it.
+func wantOwnList(t *testing.T, name string, want []int, answer func() []int, given ...[]int) {
+	t.Helper()
+	was := slices.Concat(given...)
+	one, other := answer(), answer()
+	for n := range one[:cap(one)] {
+		one[:cap(one)][n] = -1
+	}
+	if third := answer(); !slices.Equal(other, want) || !slices.Equal(third, want) {
+		t.Errorf("%s: an answer changed with another one: %v, %v, not %v", name, other, third, want)
+	}
+	if !slices.Equal(slices.Concat(given...), was) {
+		t.Errorf("%s: an argument changed with the answer", name)
+	}
+}
+
+func TestFeetOfAnswersShareNoMemory(t *testing.T) {
+	for i, p := range append(closePrograms()[:60], stillPrograms(t)...) {
+		keys := keysOf(plainSpace(p))
+		key := keys[i%len(keys)]
+		s := vmOfKey(key)
+		foot, _ := plainFoot(p, key)
+		wantOwnList(t, "LooksAt", plainLooks(key), func() []int { list, _ := impl.LooksAt(p, s); return list }, s.Pcs, s.Vars, s.Held, s.Regs)
+		wantOwnList(t, "FootOf", foot, func() []int { list, _ := impl.FootOf(p, s); return list }, s.Pcs, s.Vars, s.Held, s.Regs)
+	}
+	for _, a := range itemLists() {
+		for _, b := range itemLists() {
+			wantOwnList(t, "MergeItems", plainUnion(a, b), func() []int { list, _ := impl.MergeItems(a, b); return list }, a, b)
 		}
 	}
 }
