@@ -379,8 +379,39 @@ func callsOfFeet(p impl.Program, s impl.Vm) []func() string {
 	}
 }
 
+// callsOfStage9 holds every call of chapter 10 with its arguments.
+func callsOfStage9() []func() string {
+	var calls []func() string
+	programs := append(oddPrograms(), closePrograms()[100:130]...)
+	feet := oddItemLists()
+	for i, p := range programs {
+		for j, q := range []impl.Program{p, programs[(i*31+7)%len(programs)], setProgram(6, i%7, 2)} {
+			calls = append(calls, callsOfVersions(p, q, feet[(i+j)%len(feet)])...)
+			calls = append(calls, callsOfVersions(q, p, []int{i % 23, 22})...)
+		}
+		for _, item := range []int{i % 24, 22 - i%5, math.MinInt, math.MaxInt} {
+			calls = append(calls, func() string { return fmt.Sprint(impl.InstrAt(p, item)) })
+		}
+	}
+	for i, foot := range feet {
+		calls = append(calls, callsOfVersions(setProgram(6, 3, 1), setProgram(4, i%7, 1), foot)...)
+	}
+	for _, n := range append(oddNumbers(), noItems()...) {
+		calls = append(calls, func() string { return fmt.Sprint(impl.InstrAt(setProgram(6, 3, 1), n)) })
+	}
+	return calls
+}
+
+func callsOfVersions(p, q impl.Program, foot []int) []func() string {
+	return []func() string{
+		func() string { return fmt.Sprint(impl.ChangedItems(p, q)) },
+		func() string { return fmt.Sprint(impl.DiffText(p, q)) },
+		func() string { return fmt.Sprint(impl.AgreeOn(p, q, foot)) },
+	}
+}
+
 func allCalls() []func() string {
-	return slices.Concat(callsOfStage1(), callsOfStage2(), callsOfStage3(), callsOfStage4(), callsOfStage5(), callsOfStage6(), callsOfStage7(), callsOfStage8())
+	return slices.Concat(callsOfStage1(), callsOfStage2(), callsOfStage3(), callsOfStage4(), callsOfStage5(), callsOfStage6(), callsOfStage7(), callsOfStage8(), callsOfStage9())
 }
 
 // A panic anywhere here fails the test too.
@@ -438,6 +469,11 @@ func TestProgramsThatAreHandedInStayAsTheyWere(t *testing.T) {
 		impl.ProgramText(given)
 		impl.PackProgram(given)
 		impl.SameProgram(given, given)
+		impl.InstrAt(given, i%23)
+		other := setProgram(i%7, 6, 0)
+		for _, call := range slices.Concat(callsOfVersions(given, given, everyItem()), callsOfVersions(given, other, everyItem()), callsOfVersions(other, given, nil)) {
+			call()
+		}
 		for _, call := range slices.Concat(callsOfFull(given, impl.Bug{Kind: impl.ErrAssert}, newKey), callsOfSleep(given), callsOfFeet(given, impl.NewVm())) {
 			call()
 		}
@@ -553,6 +589,7 @@ func TestItemsThatAreHandedInStayAsTheyWere(t *testing.T) {
 			for _, call := range callsOfItems(room[:len(a)], otherRoom[:len(b)]) {
 				call()
 			}
+			impl.AgreeOn(setProgram(6, 3, 1), setProgram(4, 3, 1), room[:len(a)])
 			if !slices.Equal(room, was) || !slices.Equal(otherRoom, otherWas) {
 				t.Errorf("items %d or %d, or what is behind them, were changed", i, j)
 			}
@@ -732,6 +769,23 @@ func TestFeetOfAnswersShareNoMemory(t *testing.T) {
 	for _, a := range itemLists() {
 		for _, b := range itemLists() {
 			wantOwnList(t, "MergeItems", plainUnion(a, b), func() []int { list, _ := impl.MergeItems(a, b); return list }, a, b)
+		}
+	}
+}
+
+func TestVersionsOfAnswersShareNoMemory(t *testing.T) {
+	texts := plainInstrs()
+	for i, p := range append(closePrograms()[:60], stillPrograms(t)...) {
+		for _, q := range versionsOf(p, i) {
+			items, lines := plainDiff(p, q, texts)
+			wantOwnList(t, "ChangedItems", items, func() []int { list, _ := impl.ChangedItems(p, q); return list })
+			one, _ := impl.DiffText(p, q)
+			other, _ := impl.DiffText(p, q)
+			clear(one[:cap(one)])
+			third, _ := impl.DiffText(p, q)
+			if !slices.Equal(other, lines) || !slices.Equal(third, lines) {
+				t.Error("DiffText: an answer changed with another one")
+			}
 		}
 	}
 }
