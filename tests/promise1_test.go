@@ -410,8 +410,82 @@ func callsOfVersions(p, q impl.Program, foot []int) []func() string {
 	}
 }
 
+// oddEntries are right and wrong, every few of each.
+func oddEntries() []impl.Entry {
+	var all []impl.Entry
+	for i, e := range append(rightEntries(), wrongEntries()...) {
+		if i%9 == 0 || i < 12 {
+			all = append(all, e)
+		}
+	}
+	return all
+}
+
+func oddMemos() []impl.Memo {
+	all := []impl.Memo{{}, {Entries: []impl.Entry{}}, {Entries: make([]impl.Entry, 3)}, {Entries: make([]impl.Entry, impl.MaxStates+1)}, {Entries: oddEntries()},
+		someMemo(1, 4), someMemo(2, 9), someMemo(5, 13), someMemo(21, 2), someMemo(impl.MaxStates, 3), someMemo(impl.MaxStates+1, 3)}
+	turned := someMemo(6, 2)
+	slices.Reverse(turned.Entries)
+	twice := someMemo(6, 2)
+	twice.Entries[2] = twice.Entries[1]
+	return append(all, turned, twice)
+}
+
+// callsOfStage10 holds every call of chapter 11 with its arguments.
+func callsOfStage10() []func() string {
+	var calls []func() string
+	memos, lists := oddMemos(), oddItemLists()
+	for i, e := range oddEntries() {
+		calls = append(calls, callsOfEntry(e)...)
+		calls = append(calls, callsOfMemo(someMemo(i%5, i), e, lists[i%len(lists)])...)
+	}
+	for i, m := range memos {
+		other := memos[(i+1)%len(memos)]
+		calls = append(calls, func() string {
+			return fmt.Sprint(impl.SameMemo(m, m), impl.SameMemo(m, other), impl.SameMemo(other, m))
+		})
+		for _, e := range []impl.Entry{{Key: newKey, Foot: []int{3}}, greatestEntry(), {Key: "0"}} {
+			calls = append(calls, callsOfMemo(m, e, lists[i%len(lists)])...)
+		}
+		for _, e := range m.Entries[:min(len(m.Entries), 3)] {
+			calls = append(calls, callsOfMemo(m, someEntry(e.Key, 5), []int{22, 5, 5})...)
+		}
+	}
+	for _, changed := range lists {
+		calls = append(calls, callsOfMemo(memos[8], impl.Entry{}, changed)...)
+	}
+	for _, text := range oddTexts() {
+		calls = append(calls,
+			func() string { return fmt.Sprint(impl.ReadEntry(text)) },
+			func() string { return fmt.Sprint(impl.ReadEntry(newKey + text)) },
+			func() string { return fmt.Sprint(impl.FindEntry(memos[8], text)) })
+	}
+	return calls
+}
+
+func callsOfEntry(e impl.Entry) []func() string {
+	return []func() string{
+		func() string { return fmt.Sprint(impl.EntryOK(e)) },
+		func() string { return fmt.Sprint(impl.EntryText(e)) },
+		func() string {
+			text, _ := impl.EntryText(e)
+			return fmt.Sprint(impl.ReadEntry(text))
+		},
+	}
+}
+
+func callsOfMemo(m impl.Memo, e impl.Entry, changed []int) []func() string {
+	return []func() string{
+		func() string { return fmt.Sprint(impl.MemoOK(m)) },
+		func() string { return fmt.Sprint(impl.FindEntry(m, e.Key)) },
+		func() string { return fmt.Sprint(impl.PutEntry(m, e)) },
+		func() string { return fmt.Sprint(impl.KeepEntries(m, changed)) },
+		func() string { return fmt.Sprint(impl.SameMemo(m, impl.Memo{Entries: []impl.Entry{e}})) },
+	}
+}
+
 func allCalls() []func() string {
-	return slices.Concat(callsOfStage1(), callsOfStage2(), callsOfStage3(), callsOfStage4(), callsOfStage5(), callsOfStage6(), callsOfStage7(), callsOfStage8(), callsOfStage9())
+	return slices.Concat(callsOfStage1(), callsOfStage2(), callsOfStage3(), callsOfStage4(), callsOfStage5(), callsOfStage6(), callsOfStage7(), callsOfStage8(), callsOfStage9(), callsOfStage10())
 }
 
 // A panic anywhere here fails the test too.
@@ -592,6 +666,54 @@ func TestItemsThatAreHandedInStayAsTheyWere(t *testing.T) {
 			impl.AgreeOn(setProgram(6, 3, 1), setProgram(4, 3, 1), room[:len(a)])
 			if !slices.Equal(room, was) || !slices.Equal(otherRoom, otherWas) {
 				t.Errorf("items %d or %d, or what is behind them, were changed", i, j)
+			}
+		}
+	}
+}
+
+// roomyEntry has room behind the end of each of its lists; with it, all of that room.
+func roomyEntry(e impl.Entry) (short, room impl.Entry) {
+	room = impl.Entry{Key: e.Key, Bugs: append(slices.Clone(e.Bugs), impl.Bug{Kind: 13, Pc: 1}, impl.Bug{Kind: 12}), Foot: append(slices.Clone(e.Foot), 9, 1, 0)}
+	return impl.Entry{Key: e.Key, Bugs: room.Bugs[:len(e.Bugs)], Foot: room.Foot[:len(e.Foot)]}, room
+}
+
+// roomyMemo has room behind the end of its list, and of all of its entries' lists.
+func roomyMemo(m impl.Memo) (impl.Memo, []impl.Entry) {
+	var list, room []impl.Entry
+	for _, e := range append(slices.Clone(m.Entries), impl.Entry{Key: "behind"}, impl.Entry{Key: "far behind", Foot: []int{4}}) {
+		short, all := roomyEntry(e)
+		list, room = append(list, short), append(room, all)
+	}
+	return impl.Memo{Entries: list[:len(m.Entries)]}, room
+}
+
+// firstOf is put over what is there.
+func firstOf(m impl.Memo) impl.Entry {
+	for _, e := range m.Entries {
+		return someEntry(e.Key, 16)
+	}
+	return impl.Entry{}
+}
+
+func TestEntriesThatAreHandedInStayAsTheyWere(t *testing.T) {
+	memos := oddMemos()
+	for i, m := range memos {
+		for j, e := range []impl.Entry{{Key: newKey}, greatestEntry(), someEntry("123456712654321", i), {Key: "0"}, firstOf(m)} {
+			given, room := roomyMemo(m)
+			behind := given.Entries[:len(given.Entries)+2]
+			one, oneRoom := roomyEntry(e)
+			changed := append([]int{5, 22, i % 7}, 9, 1)
+			was, wasBehind := clonedEntries(room), clonedEntries(behind)
+			wasOne, wasChanged := clonedEntry(oneRoom), slices.Clone(changed)
+			for _, call := range slices.Concat(callsOfEntry(one), callsOfMemo(given, one, changed[:3])) {
+				call()
+			}
+			impl.SameMemo(given, given)
+			if !sameEntries(room, was) || !sameEntries(behind, wasBehind) {
+				t.Errorf("memo %d, or what is behind its lists, was changed with entry %d", i, j)
+			}
+			if !sameEntry(oneRoom, wasOne) || !slices.Equal(changed, wasChanged) {
+				t.Errorf("entry %d or the items, or what is behind them, was changed with memo %d", j, i)
 			}
 		}
 	}
@@ -787,6 +909,109 @@ func TestVersionsOfAnswersShareNoMemory(t *testing.T) {
 				t.Error("DiffText: an answer changed with another one")
 			}
 		}
+	}
+}
+
+// spoilEntry writes over all the memory of an entry's lists, of the one or the other.
+func spoilEntry(e impl.Entry, bugs bool) {
+	if bugs {
+		for i := range e.Bugs[:cap(e.Bugs)] {
+			e.Bugs[:cap(e.Bugs)][i] = impl.Bug{Kind: -1}
+		}
+		return
+	}
+	for i := range e.Foot[:cap(e.Foot)] {
+		e.Foot[:cap(e.Foot)][i] = -1
+	}
+}
+
+// wantOwnEntries spoils one list of an answer after the other, and asks whether
+// another list of it, another answer or an argument changed with it.
+func wantOwnEntries(t *testing.T, name string, want []impl.Entry, answer func() []impl.Entry, given ...[]impl.Entry) {
+	t.Helper()
+	was := clonedEntries(slices.Concat(given...))
+	check := func(at int, one, other []impl.Entry) {
+		t.Helper()
+		for i := range one {
+			if i != at && !sameEntry(one[i], want[i]) {
+				t.Errorf("%s: entry %d changed with entry %d", name, i, at)
+			}
+		}
+		if !sameEntries(other, want) || !sameEntries(answer(), want) {
+			t.Errorf("%s: an answer changed with another one", name)
+		}
+		if !sameEntries(slices.Concat(given...), was) {
+			t.Errorf("%s: an argument changed with the answer", name)
+		}
+	}
+	for at := range want {
+		one, other := answer(), answer()
+		spoilEntry(one[at], true)
+		if !slices.Equal(one[at].Foot, want[at].Foot) {
+			t.Errorf("%s: a foot changed with its bugs", name)
+		}
+		spoilEntry(one[at], false)
+		check(at, one, other)
+		again := answer()
+		spoilEntry(again[at], false)
+		if !slices.Equal(again[at].Bugs, want[at].Bugs) {
+			t.Errorf("%s: bugs changed with their foot", name)
+		}
+	}
+	one, other := answer(), answer()
+	clear(one[:cap(one)])
+	check(-1, nil, other)
+}
+
+func TestEntriesOfAnswersShareNoMemory(t *testing.T) {
+	for n := range 9 {
+		m := someMemo(n, n*11+20)
+		for i, e := range m.Entries {
+			found := func() []impl.Entry { x, _ := impl.FindEntry(m, e.Key); return []impl.Entry{x} }
+			wantOwnEntries(t, "FindEntry", []impl.Entry{e}, found, m.Entries)
+			text := plainEntryText(e)
+			wantOwnEntries(t, "ReadEntry", []impl.Entry{e}, func() []impl.Entry { x, _ := impl.ReadEntry(text); return []impl.Entry{x} })
+			over := someEntry(e.Key, 31+i)
+			all := slices.Clone(m.Entries)
+			all[i] = over
+			put := func() []impl.Entry { x, _ := impl.PutEntry(m, over); return x.Entries }
+			wantOwnEntries(t, "PutEntry over another one", all, put, m.Entries, []impl.Entry{over})
+		}
+		for _, e := range []impl.Entry{greatestEntry(), someEntry(newKey, 35)} {
+			all := append([]impl.Entry{e}, m.Entries...)
+			slices.SortFunc(all, func(a, b impl.Entry) int { return strings.Compare(a.Key, b.Key) })
+			put := func() []impl.Entry { x, _ := impl.PutEntry(m, e); return x.Entries }
+			wantOwnEntries(t, "PutEntry", all, put, m.Entries, []impl.Entry{e})
+		}
+		for _, changed := range [][]int{nil, {3}, {22, 9}} {
+			var kept []impl.Entry
+			for _, e := range m.Entries {
+				if !impl.Touches(e.Foot, changed) {
+					kept = append(kept, e)
+				}
+			}
+			keep := func() []impl.Entry { x, _ := impl.KeepEntries(m, changed); return x.Entries }
+			wantOwnEntries(t, "KeepEntries", kept, keep, m.Entries)
+		}
+	}
+}
+
+// What is full is answered as it was, but not the memory of it.
+func TestFullMemosOfAnswersShareNoMemory(t *testing.T) {
+	m := someMemo(impl.MaxStates, 40)
+	was := clonedEntries(m.Entries)
+	put := func() []impl.Entry { x, _ := impl.PutEntry(m, impl.Entry{Key: newKey}); return x.Entries }
+	one, other := put(), put()
+	for at, e := range one {
+		spoilEntry(e, true)
+		if !slices.Equal(e.Foot, was[at].Foot) || at < impl.MaxStates-1 && !sameEntry(one[at+1], was[at+1]) {
+			t.Errorf("a list changed with the bugs of entry %d", at)
+		}
+		spoilEntry(e, false)
+	}
+	clear(one[:cap(one)])
+	if !sameEntries(other, was) || !sameEntries(put(), was) || !sameEntries(m.Entries, was) {
+		t.Error("the memo or an answer changed with another answer")
 	}
 }
 
