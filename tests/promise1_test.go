@@ -484,8 +484,41 @@ func callsOfMemo(m impl.Memo, e impl.Entry, changed []int) []func() string {
 	}
 }
 
+// callsOfStage11 holds every call of chapter 12 with its arguments.
+func callsOfStage11() []func() string {
+	var calls []func() string
+	programs, memos, entries := oddPrograms(), oddMemos(), oddEntries()
+	for i, p := range programs {
+		for j := range 3 {
+			calls = append(calls, callsOfChecks(p, memos[(i+j*5)%len(memos)], entries[(i*7+j*31)%len(entries)])...)
+		}
+		_, m, _ := impl.CheckFresh(p)
+		calls = append(calls, callsOfChecks(p, impl.Memo{Entries: some(m.Entries, i, 2)}, impl.Entry{Key: newKey})...)
+	}
+	for i, e := range entries {
+		p := closePrograms()[i%40]
+		_, m, _ := impl.CheckFresh(p)
+		calls = append(calls, callsOfChecks(p, impl.Memo{Entries: some(m.Entries, i, 3)}, e)...)
+	}
+	for _, was := range memos {
+		for _, now := range memos {
+			calls = append(calls, func() string { return fmt.Sprint(impl.NewEntries(was, now)) })
+		}
+	}
+	return calls
+}
+
+func callsOfChecks(p impl.Program, m impl.Memo, e impl.Entry) []func() string {
+	return []func() string{
+		func() string { return fmt.Sprint(impl.CheckFresh(p)) },
+		func() string { return fmt.Sprint(impl.CheckAgain(p, m)) },
+		func() string { return fmt.Sprint(impl.EntryTrue(p, e)) },
+		func() string { return fmt.Sprint(impl.MemoTrue(p, m)) },
+	}
+}
+
 func allCalls() []func() string {
-	return slices.Concat(callsOfStage1(), callsOfStage2(), callsOfStage3(), callsOfStage4(), callsOfStage5(), callsOfStage6(), callsOfStage7(), callsOfStage8(), callsOfStage9(), callsOfStage10())
+	return slices.Concat(callsOfStage1(), callsOfStage2(), callsOfStage3(), callsOfStage4(), callsOfStage5(), callsOfStage6(), callsOfStage7(), callsOfStage8(), callsOfStage9(), callsOfStage10(), callsOfStage11())
 }
 
 // A panic anywhere here fails the test too.
@@ -714,6 +747,28 @@ func TestEntriesThatAreHandedInStayAsTheyWere(t *testing.T) {
 			}
 			if !sameEntry(oneRoom, wasOne) || !slices.Equal(changed, wasChanged) {
 				t.Errorf("entry %d or the items, or what is behind them, was changed with memo %d", j, i)
+			}
+		}
+	}
+}
+
+func TestChecksLeaveTheirArguments(t *testing.T) {
+	memos := oddMemos()
+	for i, p := range append(stillPrograms(t), append(closePrograms()[:30], impl.Program{}, setProgram(6, 6, 6))...) {
+		_, own, _ := impl.CheckFresh(p)
+		for j, m := range []impl.Memo{own, {Entries: some(own.Entries, i, 2)}, memos[i%len(memos)]} {
+			p, codes := roomy(p)
+			given, room := roomyMemo(m)
+			behind := given.Entries[:len(given.Entries)+2]
+			one, oneRoom := roomyEntry(impl.Entry{Key: newKey, Foot: []int{0, 8, 16}})
+			wasCodes, was, wasBehind, wasOne := cloned(impl.Program{Code: codes}).Code, clonedEntries(room), clonedEntries(behind), clonedEntry(oneRoom)
+			for _, call := range callsOfChecks(p, given, one) {
+				call()
+			}
+			impl.NewEntries(given, given)
+			impl.NewEntries(impl.Memo{}, given)
+			if !sameRoom(codes, wasCodes) || !sameEntries(room, was) || !sameEntries(behind, wasBehind) || !sameEntry(oneRoom, wasOne) {
+				t.Errorf("program %d, its memo %d or an entry, or what is behind it, was changed", i, j)
 			}
 		}
 	}
@@ -992,6 +1047,32 @@ func TestEntriesOfAnswersShareNoMemory(t *testing.T) {
 			}
 			keep := func() []impl.Entry { x, _ := impl.KeepEntries(m, changed); return x.Entries }
 			wantOwnEntries(t, "KeepEntries", kept, keep, m.Entries)
+		}
+	}
+}
+
+// withBugs has the bugs of a result as those of one more entry, so that they are
+// held against all of the others.
+func withBugs(r impl.Result, m impl.Memo) []impl.Entry {
+	return append(slices.Clone(m.Entries), impl.Entry{Key: "the result", Bugs: r.Bugs})
+}
+
+func TestChecksOfAnswersShareNoMemory(t *testing.T) {
+	for i, p := range append(stillPrograms(t)[1:], closePrograms()[20:30]...) {
+		_, m, _ := impl.CheckFresh(p)
+		for few := 1; few < 4; few++ {
+			given := impl.Memo{Entries: some(m.Entries, i, few)}
+			if want := plainCheck(p, given.Entries); len(want.all) < 200 {
+				rows := withBugs(impl.Result{Bugs: want.bugs}, impl.Memo{Entries: rowsOf(want.all)})
+				wantOwnEntries(t, "CheckAgain", rows, func() []impl.Entry { r, all, _ := impl.CheckAgain(p, given); return withBugs(r, all) }, given.Entries)
+			}
+			want, _ := impl.NewEntries(given, m)
+			rest := clonedEntries(want)
+			wantOwnEntries(t, "NewEntries", rest, func() []impl.Entry { list, _ := impl.NewEntries(given, m); return list }, given.Entries, m.Entries)
+		}
+		if want := plainCheck(p, nil); len(want.all) < 200 {
+			rows := withBugs(impl.Result{Bugs: want.bugs}, impl.Memo{Entries: rowsOf(want.all)})
+			wantOwnEntries(t, "CheckFresh", rows, func() []impl.Entry { r, all, _ := impl.CheckFresh(p); return withBugs(r, all) })
 		}
 	}
 }
