@@ -42,9 +42,6 @@ func plainCheck(p impl.Program, given []impl.Entry) checked {
 	}
 	for _, key := range slices.Backward(slices.Sorted(maps.Keys(nodes))) {
 		all[key] = plainNode(p, key, all)
-		if len(all[key].Bugs) > 30 {
-			return checked{code: impl.ErrBad}
-		}
 	}
 	return checked{bugs: all[newKey].Bugs, nodes: len(nodes), all: all}
 }
@@ -103,7 +100,11 @@ func brief(x any) string {
 	return fmt.Sprintf("%.300s", fmt.Sprint(x))
 }
 
-// wantChecked holds an answer of a check against what it must come to.
+// tellsMany says that an entry has more bugs than one of a right memo.
+func tellsMany(e impl.Entry) bool { return len(e.Bugs) > 30 }
+
+// wantChecked holds an answer of a check against what it must come to. The memo is
+// right unless a node of it tells many bugs.
 func wantChecked(t *testing.T, name string, r impl.Result, m impl.Memo, code int, want checked) {
 	t.Helper()
 	if code != want.code || !slices.Equal(r.Bugs, want.bugs) || r.Nodes != want.nodes {
@@ -112,8 +113,8 @@ func wantChecked(t *testing.T, name string, r impl.Result, m impl.Memo, code int
 	if !sameEntries(m.Entries, rowsOf(want.all)) {
 		t.Errorf("%s: entries %s, not %s", name, brief(m.Entries), brief(rowsOf(want.all)))
 	}
-	if !impl.MemoOK(m) {
-		t.Errorf("%s: the memo is not right", name)
+	if right := impl.MemoOK(m); right == slices.ContainsFunc(m.Entries, tellsMany) {
+		t.Errorf("%s: MemoOK of the memo: %v", name, right)
 	}
 }
 
@@ -461,7 +462,7 @@ func TestChecksFromEntriesThatAreNotTrue(t *testing.T) {
 					given = append(given, someEntry(e.Key, (i+j*5+n*3)%40))
 				}
 			}
-			if j == 3 { // few bugs, so that they can be told
+			if j == 3 { // few bugs, so that a node's entry can be right
 				for n := range given {
 					given[n].Bugs = given[n].Bugs[:min(len(given[n].Bugs), 2)]
 				}
@@ -472,6 +473,8 @@ func TestChecksFromEntriesThatAreNotTrue(t *testing.T) {
 				count[impl.CodeWord(want.code)]++
 			case want.nodes == 0:
 				count["first"]++
+			case len(want.bugs) > 30:
+				count["many bugs"]++
 			case !slices.Equal(want.bugs, all.bugs):
 				count["other bugs"]++
 			}
@@ -480,7 +483,7 @@ func TestChecksFromEntriesThatAreNotTrue(t *testing.T) {
 			}
 		}
 	}
-	for _, kind := range []string{"first", "other bugs", "bad"} {
+	for _, kind := range []string{"first", "other bugs", "many bugs"} {
 		if count[kind] < 10 {
 			t.Errorf("hardly any %s: %v", kind, count)
 		}
@@ -520,27 +523,69 @@ func bugsFrom(from, n int) []impl.Bug {
 	return slices.Clone(bugs[from : from+n])
 }
 
-// Of two entries that are not true a state comes to more bugs than an entry may
-// have, or to just as many.
-func TestChecksThatComeToTooManyBugs(t *testing.T) {
+// toldMany are two entries of the states behind the first steps of threads 1 and 0:
+// the one has the first bugs of all that there are, the other one those behind them.
+func toldMany(one, zero int) []impl.Entry {
+	return []impl.Entry{{Key: "010000000000000", Bugs: bugsFrom(0, one)}, {Key: "100000000000000", Bugs: bugsFrom(one, zero)}}
+}
+
+// Of two right entries that are not true a state comes to more bugs than they may
+// have, or to just as many: all of them are found, and stand in its entry.
+func TestChecksThatComeToManyBugs(t *testing.T) {
 	p := programOf(t, "0 add 0 0;1 add 0 0")
-	one, other := "100000000000000", "010000000000000"
-	for _, row := range []struct{ a, b, code int }{{15, 15, 0}, {30, 0, 0}, {0, 30, 0}, {29, 1, 0}, {16, 15, impl.ErrBad}, {15, 16, impl.ErrBad}, {30, 1, impl.ErrBad}, {7, 30, impl.ErrBad}} {
-		name := fmt.Sprint(row)
-		given := []impl.Entry{{Key: other, Bugs: bugsFrom(0, row.a)}, {Key: one, Bugs: bugsFrom(row.a, row.b)}}
-		want := wantAgain(t, name, p, given)
-		if want.code != row.code || row.code == 0 && len(want.bugs) != 30 {
-			t.Errorf("%s: %d bugs, %d", name, len(want.bugs), want.code)
+	for _, row := range []struct{ one, zero int }{{15, 15}, {30, 0}, {0, 30}, {29, 1}, {16, 15}, {15, 16}, {30, 1}, {1, 30}, {18, 18}, {7, 30}, {30, 7}} {
+		name, n := fmt.Sprint(row), row.one+row.zero
+		given := toldMany(row.one, row.zero)
+		if !impl.MemoOK(impl.Memo{Entries: given}) {
+			t.Fatal(name, "what is given is not right")
+		}
+		first := impl.Entry{Key: newKey, Bugs: bugsFrom(0, n), Foot: []int{0, 8, 16}}
+		want := checked{bugs: first.Bugs, nodes: 1, all: map[string]impl.Entry{newKey: first, given[0].Key: given[0], given[1].Key: given[1]}}
+		r, m, code := impl.CheckAgain(p, impl.Memo{Entries: given})
+		wantChecked(t, name, r, m, code, want)
+		wantAgain(t, name, p, given)
+		if tellsMany(first) { // such an entry is not right where it comes in
+			wantCheckBad(t, name, p, m)
+			wantEntryBad(t, name, p, first)
+			wantNewBad(t, name, impl.Memo{}, m)
 		}
 	}
-	// alike ones count once; a step's own one counts, too
-	thirty := []impl.Entry{{Key: other, Bugs: bugsFrom(0, 30)}, {Key: one, Bugs: bugsFrom(0, 30)}}
-	wantAgain(t, "alike", p, thirty)
-	if want := wantAgain(t, "a step's own", programOf(t, "0 add 0 0;1 unlock 0"), thirty); want.code != 0 {
-		t.Error("a bug that is there already counts twice", want.code)
+}
+
+// Alike bugs count once; a step's own one, and a stuck state's, count with those of
+// entries; what comes to many is handed on by nodes ahead of it.
+func TestManyBugsOfEntriesAndSteps(t *testing.T) {
+	thirty := []impl.Entry{{Key: "010000000000000", Bugs: bugsFrom(0, 30)}, {Key: "100000000000000", Bugs: bugsFrom(0, 30)}}
+	for _, row := range []struct {
+		lines string
+		given []impl.Entry
+		bugs  int
+		nodes int
+	}{
+		{"0 add 0 0;1 add 0 0", thirty, 30, 1},
+		{"0 add 0 0;1 unlock 0", thirty, 30, 1},
+		{"0 add 0 0;1 add 0 0;2 unlock 0", thirty, 31, 5},
+		{"2 add 0 0;2 lock 0;2 lock 0", []impl.Entry{{Key: "002000030000000", Bugs: bugsFrom(0, 30)}}, 31, 2},
+		{"2 add 0 0;0 add 0 0;1 add 0 0", []impl.Entry{{Key: "011000000000000", Bugs: bugsFrom(0, 18)}, {Key: "101000000000000", Bugs: bugsFrom(18, 19)}}, 37, 6},
+		{"0 add 0 0;1 add 0 0", append([]impl.Entry{{Key: newKey, Bugs: bugsFrom(3, 4)}}, toldMany(18, 18)...), 4, 0},
+	} {
+		name := fmt.Sprintf("%q, %d entries", row.lines, len(row.given))
+		want := wantAgain(t, name, programOf(t, row.lines), row.given)
+		if want.code != 0 || len(want.bugs) != row.bugs || want.nodes != row.nodes {
+			t.Errorf("%s: %d bugs, %d nodes, %d", name, len(want.bugs), want.nodes, want.code)
+		}
 	}
-	if want := wantAgain(t, "a step's own", programOf(t, "0 add 0 0;1 add 0 0;2 unlock 0"), thirty); want.code != impl.ErrBad {
-		t.Error("a step's bug does not count", want.code)
+}
+
+// Many bugs are no reason for a code, nor do they hide one.
+func TestManyBugsAtTheBoundOfEntries(t *testing.T) {
+	p := programOf(t, "0 add 0 0;1 add 0 0")
+	for _, n := range []int{0, 1, 1996, 1997, 1998} {
+		given := append(foreign(n), toldMany(18, 18)...)
+		want := wantAgain(t, fmt.Sprint(n, " others"), p, given)
+		if (want.code == 0) != (n+3 <= 2000) || want.code != 0 && want.code != impl.ErrBudget || want.code == 0 && len(want.bugs) != 36 {
+			t.Errorf("%d others: %d bugs, %d", n, len(want.bugs), want.code)
+		}
 	}
 }
 

@@ -500,12 +500,19 @@ func callsOfStage11() []func() string {
 		_, m, _ := impl.CheckFresh(p)
 		calls = append(calls, callsOfChecks(p, impl.Memo{Entries: some(m.Entries, i, 3)}, e)...)
 	}
+	p, m := manyBugs()
+	calls = append(calls, callsOfChecks(p, m, impl.Entry{Key: newKey})...)
 	for _, was := range memos {
 		for _, now := range memos {
 			calls = append(calls, func() string { return fmt.Sprint(impl.NewEntries(was, now)) })
 		}
 	}
 	return calls
+}
+
+// manyBugs are right, and come to an entry of a node that has too many bugs to be so.
+func manyBugs() (impl.Program, impl.Memo) {
+	return setProgram(1, 1, 0), impl.Memo{Entries: toldMany(18, 18)}
 }
 
 func callsOfChecks(p impl.Program, m impl.Memo, e impl.Entry) []func() string {
@@ -756,7 +763,7 @@ func TestChecksLeaveTheirArguments(t *testing.T) {
 	memos := oddMemos()
 	for i, p := range append(stillPrograms(t), append(closePrograms()[:30], impl.Program{}, setProgram(6, 6, 6))...) {
 		_, own, _ := impl.CheckFresh(p)
-		for j, m := range []impl.Memo{own, {Entries: some(own.Entries, i, 2)}, memos[i%len(memos)]} {
+		for j, m := range []impl.Memo{own, {Entries: some(own.Entries, i, 2)}, memos[i%len(memos)], {Entries: toldMany(18, 18)}} {
 			p, codes := roomy(p)
 			given, room := roomyMemo(m)
 			behind := given.Entries[:len(given.Entries)+2]
@@ -1058,6 +1065,13 @@ func withBugs(r impl.Result, m impl.Memo) []impl.Entry {
 }
 
 func TestChecksOfAnswersShareNoMemory(t *testing.T) {
+	p, given := manyBugs()
+	want := plainCheck(p, given.Entries)
+	rows := withBugs(impl.Result{Bugs: want.bugs}, impl.Memo{Entries: rowsOf(want.all)})
+	if len(rows) != 4 || !tellsMany(rows[0]) {
+		t.Error("not many bugs:", rows)
+	}
+	wantOwnEntries(t, "CheckAgain of many bugs", rows, func() []impl.Entry { r, all, _ := impl.CheckAgain(p, given); return withBugs(r, all) }, given.Entries)
 	for i, p := range append(stillPrograms(t)[1:], closePrograms()[20:30]...) {
 		_, m, _ := impl.CheckFresh(p)
 		for few := 1; few < 4; few++ {
