@@ -1,6 +1,7 @@
 package tests
 
 import (
+	"crypto/sha256"
 	"fmt"
 	"math"
 	"slices"
@@ -524,8 +525,39 @@ func callsOfChecks(p impl.Program, m impl.Memo, e impl.Entry) []func() string {
 	}
 }
 
+// toldDisk tells disks by their sums, as many of them are long.
+func toldDisk(d impl.Disk, code int) string {
+	return fmt.Sprintf("%d %d %x %x %d", len(d.Sure), len(d.Pending), sha256.Sum256([]byte(d.Sure)), sha256.Sum256([]byte(d.Pending)), code)
+}
+
+// callsOfStage12 holds every call of chapter 13 with its arguments.
+func callsOfStage12() []func() string {
+	var calls []func() string
+	texts := oddTexts()
+	for i, d := range oddDisks() {
+		calls = append(calls,
+			func() string { return fmt.Sprint(impl.DiskOK(d)) },
+			func() string { return toldDisk(impl.FlushDisk(d)) })
+		for j, text := range append(diskTexts(d), texts[i%40], texts[i]) {
+			if i%4 == j%4 {
+				calls = append(calls,
+					func() string { return toldDisk(impl.AppendDisk(d, text)) },
+					func() string { return toldDisk(impl.ReplaceDisk(d, text)) })
+			}
+		}
+		for j, n := range diskNumbers(d) {
+			if i%4 == j%4 {
+				calls = append(calls,
+					func() string { return toldDisk(impl.CrashDisk(d, n)) },
+					func() string { return toldDisk(impl.CutDisk(d, n)) })
+			}
+		}
+	}
+	return calls
+}
+
 func allCalls() []func() string {
-	return slices.Concat(callsOfStage1(), callsOfStage2(), callsOfStage3(), callsOfStage4(), callsOfStage5(), callsOfStage6(), callsOfStage7(), callsOfStage8(), callsOfStage9(), callsOfStage10(), callsOfStage11())
+	return slices.Concat(callsOfStage1(), callsOfStage2(), callsOfStage3(), callsOfStage4(), callsOfStage5(), callsOfStage6(), callsOfStage7(), callsOfStage8(), callsOfStage9(), callsOfStage10(), callsOfStage11(), callsOfStage12())
 }
 
 // A panic anywhere here fails the test too.
