@@ -556,8 +556,53 @@ func callsOfStage12() []func() string {
 	return calls
 }
 
+func oddRecords() []impl.Record {
+	all := []impl.Record{{}, {Kind: 1}, {Kind: 2, Text: "\x00"}, smallestRecord(), greatestRecord(), {Kind: 3, Text: long(impl.MaxText + 1)}}
+	for i, text := range oddTexts() {
+		all = append(all, impl.Record{Kind: i%6 - 1, Text: text})
+	}
+	for _, kind := range oddNumbers() {
+		all = append(all, impl.Record{Kind: kind, Text: "\x00"}, impl.Record{Kind: kind, Text: newKey + "\x01\x00"})
+	}
+	return append(all, mixedRecords()[:60]...)
+}
+
+// oddLogs are whole, torn, bent, or none at all.
+func oddLogs() []impl.Disk {
+	all := []impl.Disk{{Sure: strings.Repeat(plainRecordText(smallestRecord()), 12000)}}
+	for i, list := range someLogs() {
+		log, _ := logOf(list)
+		all = append(all, impl.Disk{Sure: log}, impl.Disk{Sure: log[:len(log)/2]}, impl.Disk{Sure: log, Pending: "x"}, impl.Disk{Sure: log + strangeFrames()[i*7]})
+		all = append(all, impl.Disk{Sure: log[:len(log)/3] + "\xff" + log}, impl.Disk{Sure: log + strangeBytes()[i]})
+	}
+	return append(all, oddDisks()...)
+}
+
+// callsOfStage13 holds every call of chapter 14 with its arguments.
+func callsOfStage13() []func() string {
+	var calls []func() string
+	disks := oddLogs()
+	for i, r := range oddRecords() {
+		d := disks[(i*7)%len(disks)]
+		calls = append(calls,
+			func() string { return fmt.Sprint(impl.RecordOK(r)) },
+			func() string { return fmt.Sprint(impl.RecordText(r)) },
+			func() string { return toldDisk(impl.AppendRecord(impl.Disk{}, r)) },
+			func() string { return toldDisk(impl.AppendRecord(d, r)) })
+	}
+	for _, d := range disks {
+		calls = append(calls,
+			func() string { return fmt.Sprint(impl.ReadLog(d)) },
+			func() string { return toldDisk(impl.RecoverLog(d)) })
+	}
+	for _, list := range append(oddBugLists(), rightBugLists()...) {
+		calls = append(calls, func() string { return fmt.Sprint(impl.CommitText(list)) })
+	}
+	return calls
+}
+
 func allCalls() []func() string {
-	return slices.Concat(callsOfStage1(), callsOfStage2(), callsOfStage3(), callsOfStage4(), callsOfStage5(), callsOfStage6(), callsOfStage7(), callsOfStage8(), callsOfStage9(), callsOfStage10(), callsOfStage11(), callsOfStage12())
+	return slices.Concat(callsOfStage1(), callsOfStage2(), callsOfStage3(), callsOfStage4(), callsOfStage5(), callsOfStage6(), callsOfStage7(), callsOfStage8(), callsOfStage9(), callsOfStage10(), callsOfStage11(), callsOfStage12(), callsOfStage13())
 }
 
 // A panic anywhere here fails the test too.
@@ -675,12 +720,13 @@ func TestStatesThatAreHandedInStayAsTheyWere(t *testing.T) {
 }
 
 func TestBugsThatAreHandedInStayAsTheyWere(t *testing.T) {
-	for i, list := range oddBugLists() {
+	for i, list := range append(oddBugLists(), rightBugLists()...) {
 		for j, other := range oddBugLists() {
 			room := append(slices.Clone(list), impl.Bug{Kind: 13, Pc: 1}, impl.Bug{Kind: 12})
 			otherRoom := append(slices.Clone(other), impl.Bug{Kind: 13, Pc: 1}, impl.Bug{Kind: 12})
 			was, otherWas := slices.Clone(room), slices.Clone(otherRoom)
 			impl.MergeBugs(room[:len(list)], otherRoom[:len(other)])
+			impl.CommitText(room[:len(list)])
 			if !slices.Equal(room, was) || !slices.Equal(otherRoom, otherWas) {
 				t.Errorf("lists %d and %d, or what is behind them, were changed", i, j)
 			}
