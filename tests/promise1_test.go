@@ -1,12 +1,15 @@
 package tests
 
 import (
+	"cmp"
 	"crypto/sha256"
 	"fmt"
 	"math"
+	"runtime"
 	"slices"
 	"strings"
 	"testing"
+	"unsafe"
 
 	"loop.example/g00632/impl"
 )
@@ -601,8 +604,98 @@ func callsOfStage13() []func() string {
 	return calls
 }
 
+// oddRegresses are right and wrong, every few of these.
+func oddRegresses() []impl.Regress {
+	all := rightRegresses()
+	for i, r := range wrongRegresses() {
+		if i%70 == 0 {
+			all = append(all, r)
+		}
+	}
+	p, m := manyBugs()
+	log, _ := logOf([]impl.Record{versionRecord(p), entryRecord(m.Entries[0]), entryRecord(m.Entries[1])})
+	return append(all, plainRegress{up: true, sure: log}.regress())
+}
+
+func oddActs() []impl.Act {
+	all := []impl.Act{submitted(holds()), submitted(fails()), submitted(setProgram(6, 6, 6)), act(2), act(3), act(4), act(5), torn(0), torn(40), torn(60000), act(7)}
+	for i, a := range wrongActs() {
+		if i%11 == 0 {
+			all = append(all, a)
+		}
+	}
+	return all
+}
+
+func oddActLists() [][]impl.Act {
+	right := oddActs()[:11]
+	all := [][]impl.Act{nil, {}, right, oddActs()[:40], slices.Repeat(right, 4)[:40], slices.Repeat(right, 4)[:41], make([]impl.Act, 3), make([]impl.Act, impl.MaxList), make([]impl.Act, impl.MaxList+1)}
+	for i := range right {
+		all = append(all, append(slices.Clone(right[i:]), right[:i]...), slices.Repeat([]impl.Act{right[i], right[(i*3+3)%11]}, 20))
+	}
+	return all
+}
+
+func oddRecordLists() [][]impl.Record {
+	odd := oddRecords()
+	all := append(someLogs(), odd, odd[:1], mixedRecords(), make([]impl.Record, impl.MaxList), make([]impl.Record, impl.MaxList+1), slices.Repeat(mixedRecords()[:1], impl.MaxList), slices.Repeat(mixedRecords()[:1], impl.MaxList+1))
+	for i := range 20 {
+		all = append(all, append(mixedRecords()[i*3:i*5+1], odd[i*9]), mixedRecords()[i*7:][:i*4])
+	}
+	return all
+}
+
+// callsOfStage14 holds every call of chapter 15 with its arguments.
+func callsOfStage14() []func() string {
+	calls := []func() string{func() string { return toldRegress(impl.NewRegress()) }}
+	acts, regresses := oddActs(), oddRegresses()
+	for i, r := range regresses {
+		other := regresses[(i+1)%len(regresses)]
+		for j := range 5 {
+			calls = append(calls, callsOfRegress(r, other, acts[(i*3+j)%len(acts)])...)
+		}
+	}
+	for _, r := range regresses[:15] {
+		for _, a := range acts {
+			calls = append(calls, callsOfRegress(r, r, a)...)
+		}
+	}
+	for _, a := range append(wrongActs(), acts...) {
+		calls = append(calls, func() string { return fmt.Sprint(impl.ActOK(a)) })
+	}
+	for _, list := range oddActLists() {
+		calls = append(calls, callsOfActs(list)...)
+	}
+	for _, list := range oddRecordLists() {
+		calls = append(calls, callsOfRecords(list)...)
+	}
+	return calls
+}
+
+func callsOfRegress(r, other impl.Regress, a impl.Act) []func() string {
+	return []func() string{
+		func() string { return fmt.Sprint(impl.RegressOK(r), impl.SameRegress(r, other)) },
+		func() string { return fmt.Sprint(impl.FactsTrue(r.Facts)) },
+		func() string {
+			next, code := impl.ActDo(r, a)
+			return fmt.Sprint(next.Facts, toldRegress(next), code)
+		},
+	}
+}
+
+func callsOfActs(list []impl.Act) []func() string {
+	return []func() string{func() string {
+		r, codes, code := impl.ActsRun(list)
+		return fmt.Sprint(r.Facts, toldRegress(r), codes, code)
+	}}
+}
+
+func callsOfRecords(list []impl.Record) []func() string {
+	return []func() string{func() string { return fmt.Sprint(impl.FoldLog(list)) }}
+}
+
 func allCalls() []func() string {
-	return slices.Concat(callsOfStage1(), callsOfStage2(), callsOfStage3(), callsOfStage4(), callsOfStage5(), callsOfStage6(), callsOfStage7(), callsOfStage8(), callsOfStage9(), callsOfStage10(), callsOfStage11(), callsOfStage12(), callsOfStage13())
+	return slices.Concat(callsOfStage1(), callsOfStage2(), callsOfStage3(), callsOfStage4(), callsOfStage5(), callsOfStage6(), callsOfStage7(), callsOfStage8(), callsOfStage9(), callsOfStage10(), callsOfStage11(), callsOfStage12(), callsOfStage13(), callsOfStage14())
 }
 
 // A panic anywhere here fails the test too.
@@ -855,6 +948,70 @@ func TestChecksLeaveTheirArguments(t *testing.T) {
 			if !sameRoom(codes, wasCodes) || !sameEntries(room, was) || !sameEntries(behind, wasBehind) || !sameEntry(oneRoom, wasOne) {
 				t.Errorf("program %d, its memo %d or an entry, or what is behind it, was changed", i, j)
 			}
+		}
+	}
+}
+
+// roomyRegress has room behind the end of each of its lists; with it, what tells all
+// of that room.
+func roomyRegress(r impl.Regress) (impl.Regress, func() string) {
+	p, codes := roomy(r.Facts.Program)
+	base, baseCodes := roomy(r.Facts.Base)
+	m, entries := roomyMemo(r.Facts.Memo)
+	bugs := append(slices.Clone(r.Bugs), impl.Bug{Kind: 13, Pc: 1}, impl.Bug{Kind: 12})
+	baseBugs := append(slices.Clone(r.Facts.BaseBugs), impl.Bug{Kind: 13, Pc: 1}, impl.Bug{Kind: 12})
+	r.Facts.Program, r.Facts.Base, r.Facts.Memo = p, base, m
+	r.Facts.BaseBugs, r.Bugs = baseBugs[:len(r.Facts.BaseBugs)], bugs[:len(r.Bugs)]
+	behind := m.Entries[:len(m.Entries)+2]
+	return r, func() string { return fmt.Sprint(codes, baseCodes, entries, behind, bugs, baseBugs, r) }
+}
+
+func TestRegressesThatAreHandedInStayAsTheyWere(t *testing.T) {
+	acts := oddActs()
+	for i, r := range oddRegresses() {
+		given, told := roomyRegress(r)
+		was := told()
+		for j := range acts {
+			if i >= 15 && j%5 != i%5 {
+				continue
+			}
+			a := acts[j]
+			program, codes := roomy(a.Program)
+			a.Program = program
+			wasCodes := cloned(impl.Program{Code: codes}).Code
+			for _, call := range callsOfRegress(given, given, a) {
+				call()
+			}
+			impl.ActOK(a)
+			if told() != was || !sameRoom(codes, wasCodes) || !alike(a.Program, acts[j].Program) {
+				t.Errorf("regression %d or act %d, or what is behind its lists, was changed", i, j)
+			}
+		}
+	}
+}
+
+func TestActsAndRecordsThatAreHandedInStayAsTheyWere(t *testing.T) {
+	for i, list := range oddActLists() {
+		room := append(slices.Clone(list), submitted(holds()), act(2))
+		for j := range room[:min(len(list), 20)] {
+			room[j].Program, _ = roomy(room[j].Program)
+		}
+		was := fmt.Sprint(room)
+		for _, call := range callsOfActs(room[:len(list)]) {
+			call()
+		}
+		if fmt.Sprint(room) != was {
+			t.Errorf("acts %d, or what is behind them, were changed", i)
+		}
+	}
+	for i, list := range oddRecordLists() {
+		room := append(slices.Clone(list), smallestRecord(), greatestRecord())
+		was := slices.Clone(room)
+		for _, call := range callsOfRecords(room[:len(list)]) {
+			call()
+		}
+		if !slices.Equal(room, was) {
+			t.Errorf("records %d, or what is behind them, were changed", i)
 		}
 	}
 }
@@ -1166,6 +1323,110 @@ func TestChecksOfAnswersShareNoMemory(t *testing.T) {
 			rows := withBugs(impl.Result{Bugs: want.bugs}, impl.Memo{Entries: rowsOf(want.all)})
 			wantOwnEntries(t, "CheckFresh", rows, func() []impl.Entry { r, all, _ := impl.CheckFresh(p); return withBugs(r, all) })
 		}
+	}
+}
+
+// region is the memory of a list, behind its end too, or of a text.
+type region struct {
+	from, to uintptr
+	what     string
+	given    bool // in an argument
+}
+
+func regionOf[T any](what string, list []T) region {
+	from := uintptr(unsafe.Pointer(unsafe.SliceData(list)))
+	return region{from, from + uintptr(cap(list))*unsafe.Sizeof(*new(T)), what, false}
+}
+
+func regionOfText(what, text string) region {
+	from := uintptr(unsafe.Pointer(unsafe.StringData(text)))
+	return region{from, from + uintptr(len(text)), what, false}
+}
+
+func regionsOfProgram(what string, p impl.Program) []region {
+	all := []region{regionOf(what, p.Code)}
+	for k, code := range p.Code {
+		all = append(all, regionOf(fmt.Sprint(what, ", thread ", k), code))
+	}
+	return all
+}
+
+func regionsOf(what string, r impl.Regress) []region {
+	all := []region{regionOfText(what+", sure", r.Disk.Sure), regionOfText(what+", pending", r.Disk.Pending), regionOf(what+", bugs", r.Bugs), regionOf(what+", bugs of the base", r.Facts.BaseBugs), regionOf(what+", entries", r.Facts.Memo.Entries)}
+	all = append(all, regionsOfProgram(what+", program", r.Facts.Program)...)
+	all = append(all, regionsOfProgram(what+", base", r.Facts.Base)...)
+	for i, e := range r.Facts.Memo.Entries {
+		name := fmt.Sprint(what, ", entry ", i)
+		all = append(all, regionOfText(name+", key", e.Key), regionOf(name+", bugs", e.Bugs), regionOf(name+", foot", e.Foot))
+	}
+	return all
+}
+
+func given(all ...region) []region {
+	for i := range all {
+		all[i].given = true
+	}
+	return all
+}
+
+// wantApart asks that no two regions share memory, unless both are in arguments; one
+// byte may stand in memory of all.
+func wantApart(t *testing.T, name string, all ...[]region) {
+	t.Helper()
+	list := slices.DeleteFunc(slices.Concat(all...), func(r region) bool { return r.to-r.from < 2 })
+	slices.SortFunc(list, func(a, b region) int { return cmp.Compare(a.from, b.from) })
+	last := map[bool]region{} // what reaches furthest, of arguments and of answers
+	for _, r := range list {
+		for _, before := range last {
+			if r.from < before.to && !(r.given && before.given) {
+				t.Errorf("%s: %s shares memory with %s", name, r.what, before.what)
+			}
+		}
+		if r.to > last[r.given].to {
+			last[r.given] = r
+		}
+	}
+}
+
+func TestRegressesOfAnswersShareNoMemory(t *testing.T) {
+	acts, answered := oddActs()[:11], map[int]int{}
+	for i, r := range oddRegresses() {
+		for j, a := range acts {
+			one, code := impl.ActDo(r, a)
+			other, _ := impl.ActDo(r, a)
+			answered[code]++
+			arguments := given(append(regionsOf("the argument", r), regionsOfProgram("the act", a.Program)...)...)
+			wantApart(t, fmt.Sprintf("regression %d, act %d, code %d", i, j, code), arguments, regionsOf("an answer", one), regionsOf("another one", other))
+			runtime.KeepAlive([]impl.Regress{r, one, other})
+		}
+	}
+	for _, code := range []int{impl.OK, impl.ErrBad, impl.ErrNone, impl.ErrUp, impl.ErrDown, impl.ErrFull} {
+		if answered[code] == 0 {
+			t.Error("no answer of code", code)
+		}
+	}
+}
+
+func TestRunsAndFoldsOfAnswersShareNoMemory(t *testing.T) {
+	for i, list := range oddActLists() {
+		one, codes, _ := impl.ActsRun(list)
+		other, otherCodes, _ := impl.ActsRun(list)
+		arguments := given(regionOf("acts", list))
+		for _, a := range list {
+			arguments = append(arguments, given(regionsOfProgram("an act", a.Program)...)...)
+		}
+		wantApart(t, fmt.Sprint("acts ", i), arguments, regionsOf("an answer", one), regionsOf("another one", other), []region{regionOf("codes", codes), regionOf("other codes", otherCodes)})
+		runtime.KeepAlive([]impl.Regress{one, other})
+	}
+	for i, list := range oddRecordLists() {
+		one, _ := impl.FoldLog(list)
+		other, _ := impl.FoldLog(list)
+		arguments := given(regionOf("records", list))
+		for _, r := range list {
+			arguments = append(arguments, given(regionOfText("a record", r.Text))...)
+		}
+		wantApart(t, fmt.Sprint("records ", i), arguments, regionsOf("an answer", impl.Regress{Facts: one}), regionsOf("another one", impl.Regress{Facts: other}))
+		runtime.KeepAlive([]impl.Facts{one, other})
 	}
 }
 

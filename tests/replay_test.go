@@ -10,8 +10,15 @@ import (
 	"loop.example/g00632/impl"
 )
 
+// everyBug and bugTexts are made once, as many of the plain rules ask for them.
+var everyBug, bugTexts = makeBugs()
+
 // plainBugs has every bug that there is, in order, with its text.
 func plainBugs() ([]impl.Bug, []string) {
+	return slices.Clone(everyBug), slices.Clone(bugTexts)
+}
+
+func makeBugs() ([]impl.Bug, []string) {
 	var bugs []impl.Bug
 	var texts []string
 	for kind, word := range []string{12: "assert", 13: "fault"} {
@@ -51,9 +58,9 @@ func wrongBugs() []impl.Bug {
 // plainMerge picks from all bugs, in order, those that one of the lists has.
 func plainMerge(lists ...[]impl.Bug) []impl.Bug {
 	var out []impl.Bug
-	bugs, _ := plainBugs()
-	for _, b := range bugs {
-		if slices.Contains(slices.Concat(lists...), b) {
+	all := slices.Concat(lists...)
+	for _, b := range everyBug {
+		if slices.Contains(all, b) {
 			out = append(out, b)
 		}
 	}
